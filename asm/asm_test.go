@@ -530,8 +530,6 @@ func TestLineNamed(t *testing.T) {
 		{"mret#", api.Instr{Op: api.Mret}},
 		{"\twfi\t", api.Instr{Op: api.Wfi}},
 		{"ebreak # \xff!\n;", api.Instr{Op: api.Ebreak}},
-		// Illegal is an instruction of layer 2's, right, and without pieces, though it has no word.
-		{"illegal", api.Instr{}},
 	} {
 		wantLine(t, c.s, c.want)
 	}
@@ -544,7 +542,7 @@ func TestLineIsNone(t *testing.T) {
 		"loop:", "loop: mret", ": mret", "mret:", "mret :", "mret: mret", "a", "loop",
 		".word 5", ".word", "word 5", "loop: .word 5",
 		"jal x0, loop", "beq x1, x2, loop", "beq x1, x2, _", "bgeu x1, x2, x3", "jal x0, x1", "addi x1, x1, loop", "lui x1, loop", "lw x1, loop(x2)",
-		"foo", "foo x1", "MRET", "Mret", "ADDI x1, x0, 10", "mretx", "mre", "fence.j x0, x0, 0", "fencei x0, x0, 0", "illegal x0", "unknown",
+		"foo", "foo x1", "MRET", "Mret", "ADDI x1, x0, 10", "mretx", "mre", "fence.j x0, x0, 0", "fencei x0, x0, 0", "unknown",
 		"mret mret", "mret,", "mret 0", "ecall x0", "wfi ()",
 		"addi", "addi x1", "addi x1,", "addi x1, x0", "addi x1, x0,", "addi x1 x0 10", "addi, x1, x0, 10", "addi x1, x0, 10,", "addi x1, x0, 10, 5", "addi x1,, x0, 10",
 		"addi x1, 10, x0", "addi x1, x0, x2", "addi 1, x0, 10", "addi x1, x0, - 10", "addi x1, x0, --10", "addi x1, x0, +10", "addi x1: x0: 10", "addi x1, 10(x0)",
@@ -554,6 +552,19 @@ func TestLineIsNone(t *testing.T) {
 		"csrrw x1, x2, 5", "csrrw x1, x2, x3", "csrrwi x1, 5, x2",
 		"addi x1, x0, 4294967296", "addi x1, x0, 0x", "addi x1, x0, 00000000001", "addi x1, x0, 0x000000001", "addi x1, x0, -2147483649",
 		"addi x1, x0, 10;", "addi x1, x0, 10!", "addi x1, x0, 10\n", "mret\r", "mret\n", "\nmret", "addi\nx1, x0, 10", "mret\x80", "mret\xff", "é", "mret é", "addi x1, x0, 10 \x00", "addi x1, [x0], 10",
+	} {
+		wantNoLine(t, s, api.ErrForm)
+	}
+}
+
+// P6.1: Illegal has a name (layer 2), but no text (layer 5), so that no line is one of it.
+func TestNoLineIsIllegals(t *testing.T) {
+	for _, s := range []string{
+		"illegal", " illegal ", "\tillegal", "illegal#", "illegal # mret", "illegal\t# illegal",
+		"illegal x0", "illegal x1", "illegal 0", "illegal -1", "illegal,", "illegal ()", "illegal illegal", "illegal mret", "mret illegal",
+		"illegal x1, x2", "illegal x1, x2, x3", "illegal x1, x2, 0", "illegal x1, 0(x2)", "illegal x1, 0",
+		"illegal:", "illegal: mret", "illegal: illegal", "a: illegal", "jal x0, illegal", ".word illegal",
+		"Illegal", "ILLEGAL", "illegal!",
 	} {
 		wantNoLine(t, s, api.ErrForm)
 	}

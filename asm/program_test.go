@@ -105,6 +105,7 @@ func TestLabels(t *testing.T) {
 		{"_1.a-b: mret\njal x0, _1.a-b", []uint32{wordMret, jal(t, -4)}},
 		{"a-: mret\njal x0, a-\njal x0, a_\na_:", []uint32{wordMret, jal(t, -4), jal(t, 4)}},
 		{"fence.i: mret\njal x0, fence.i", []uint32{wordMret, jal(t, -4)}},
+		{"illegal: mret\njal x0, illegal", []uint32{wordMret, jal(t, -4)}},
 		{"jal x0, a # b\na: # c", []uint32{jal(t, 4)}},
 	} {
 		wantProgram(t, c.s, c.want...)
@@ -136,6 +137,7 @@ func TestProgramIsNone(t *testing.T) {
 		":", ": mret", "a", "a a:", "a b: mret", "a::", "a: :", "a: b: mret", "a: b:", "a: b", "a, mret", "a mret", "a: a: mret",
 		"5: mret", "-a: mret", ".a: mret", ".word: mret", ".word:", "0x5: mret", ",: mret", "(a): mret", "é: mret",
 		"mret mret", "mret: mret mret", "mret;", "mret a:", "mret, a:",
+		"illegal", "a: illegal", "illegal: illegal", "illegal 0", "illegal x1", "illegal # mret", ".word illegal",
 		".word", ".word 5 6", ".word 5, 6", ".word, 5", ".word a", "a: .word a", ".word x1", ".word -", ".word 0x", ".word +1", ".word 4294967296", ".word -2147483649", ".word 00000000001", ".word 0x000000001",
 		".word mret", ".word .word 5", ".Word 5", ".WORD 5", "word 5", "..word 5", ".wor 5", "mret .word 5", ".word (5)", ".word 5:", ".word :",
 		"a: foo", "foo", "a: mret 5", "a: addi x1, x1", "a: addi x1, x1, a", "a: lui x1, a", "a: lw x1, a(x2)", "a: lw x1, 0(a)", "a: csrrw x1, a, x2", "a: slli x1, x2, a", "a: add x1, x2, a", "a: jal a, 4", "a: jal a", "a: jal x0, a, a", "a: jal x0, a:", "a: jal x0, (a)", "a: jal x0 a", "a: beq x1, a, 4", "a: beq x1, a", "a: jalr x0, a",
@@ -200,10 +202,18 @@ func TestWhichLineIsWrong(t *testing.T) {
 		{"jal x0, 0x100000", 1, api.ErrOp},
 		{"bne x1, x2, 4096", 1, api.ErrOp},
 		{"bne x1, x2, 3", 1, api.ErrOp},
-		// Illegal has the form of a line, but no word that could be told.
-		{"illegal", 1, api.ErrOp},
-		{"mret\na: illegal\njal x0, nowhere", 2, api.ErrOp},
-		{"illegal\nbad!", 2, api.ErrForm},
+		// No line is Illegal's, and it is so by itself.
+		{"illegal", 1, api.ErrForm},
+		{"illegal\n", 1, api.ErrForm},
+		{"mret\na: illegal\njal x0, nowhere", 2, api.ErrForm},
+		{"illegal\nbad!", 1, api.ErrForm},
+		{"illegal\n@\n", 1, api.ErrForm},
+		{"illegal\na:\na:", 1, api.ErrForm},
+		{"bad!\nillegal", 1, api.ErrForm},
+		{"a:\na:\nillegal", 2, api.ErrForm},
+		{"jal x0, nowhere\nillegal\n", 2, api.ErrForm},
+		{"addi x1, x1, 5000\nillegal", 2, api.ErrForm},
+		{"jal x0, illegal\nillegal", 2, api.ErrForm},
 	} {
 		wantNoProgram(t, c.s, c.line, c.why)
 	}
@@ -238,7 +248,7 @@ func TestHowManyWords(t *testing.T) {
 	wantProgram(t, strings.TrimSuffix(full, "\n"), words...)
 	wantProgram(t, full+"\n# more\nend:\nagain:", words...)
 	wantProgram(t, strings.Repeat("\n.word 9", 4096), slices.Repeat([]uint32{9}, 4096)...)
-	for _, more := range []string{"mret", "mret\n", ".word 5", "a: mret", "a: .word 5", "jal x0, nowhere", "addi x1, x1, 5000", "illegal"} {
+	for _, more := range []string{"mret", "mret\n", ".word 5", "a: mret", "a: .word 5", "jal x0, nowhere", "addi x1, x1, 5000"} {
 		wantNoProgram(t, full+more, 4097, api.ErrLong)
 		wantNoProgram(t, full+"\n\n"+more, 4099, api.ErrLong)
 		wantNoProgram(t, full+more+"\nbad!", 4097, api.ErrLong)
@@ -247,6 +257,7 @@ func TestHowManyWords(t *testing.T) {
 	wantNoProgram(t, "jal x0, nowhere\n"+full, 4097, api.ErrLong)
 	wantNoProgram(t, "addi x1, x1, 5000\n"+full, 4097, api.ErrLong)
 	wantNoProgram(t, full+"foo", 4097, api.ErrForm)
+	wantNoProgram(t, full+"illegal", 4097, api.ErrForm)
 	wantNoProgram(t, full+"bad!\nmret", 4097, api.ErrForm)
 	wantNoProgram(t, "a:"+full+"a: mret", 4097, api.ErrForm)
 	wantNoProgram(t, "a:"+full+"a:\nmret", 4097, api.ErrForm)
